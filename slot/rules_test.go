@@ -102,7 +102,9 @@ func TestArenasThatDoNotFitTheirMemory(t *testing.T) {
 }
 
 func TestWithoutMemory(t *testing.T) {
-	for _, e := range []layout.Env{{}, {C: arena(3)}, {C: arena(3), Who: 2}} {
+	// One word is the epoch's: where the first free slot would stand there is none.
+	one, _ := mem.New(1)
+	for _, e := range []layout.Env{{}, {C: arena(3)}, {C: arena(3), Who: 2}, {C: arena(3), M: &mem.Mem{}}, {C: arena(3), M: one}} {
 		k, g := &slot.Take{}, slot.NewGive(1)
 		for range 3 {
 			if !k.Step(e) || !g.Step(e) {
